@@ -1,0 +1,140 @@
+"""The calls on a ring and its ideals, and what they answer."""
+
+from ringideals.ideals import ideal_made_of, norm_of, prime_ideal, product_of
+from ringideals.polynomials import can_be_parted, parts_by
+
+PRIMES = (2, 3, 5, 7, 11, 13, 17, 19, 23, 29, 31, 37, 41, 43, 47)
+MOST_IN_RING = 20
+MOST_IN_PLACE = 100
+MOST_IDEALS = 6
+MOST_NORM = 1000000000
+
+RING = 0
+SPLIT = 1
+SINGULAR = 2
+PRIME = 3
+IDEAL = 4
+
+# How many whole numbers a call without a list has, by the call's number.
+ARGUMENTS = {1: 1, 2: 0, 3: 2, 5: 2}
+
+
+class Line:
+    """The ring that is in hand, by its polynomial, and the rows of its ideals that are kept."""
+
+    def __init__(self):
+        self.poly = [1, 0, 1]
+        self.ideals = []
+
+
+def kept(line, rows):
+    """Keeps an ideal, if there is room for it and its norm is not too high."""
+    if len(line.ideals) == MOST_IDEALS:
+        return [-5]
+    if norm_of(rows) > MOST_NORM:
+        return [-8]
+    line.ideals.append(rows)
+    return [len(line.ideals) - 1]
+
+
+def answer_ring(line, numbers):
+    """Takes another ring, without ideals."""
+    if not 2 <= len(numbers) <= 4 or any([abs(c) > MOST_IN_RING for c in numbers]):
+        return [-1]
+    poly = numbers + [1]
+    if can_be_parted(poly):
+        return [-3]
+    line.poly = poly
+    line.ideals = []
+    return [0]
+
+
+def answer_split(line, p):
+    """Tells the parts by p."""
+    if p not in PRIMES:
+        return [-1]
+    parts = parts_by(line.poly, p)
+    answer = [len(parts)]
+    for part, often, regular in parts:
+        answer.extend([len(part) - 1, often, 1 if regular else 0])
+        answer.extend(part[:-1])
+    return answer
+
+
+def is_singular(poly, p):
+    """Whether p has a part whose prime ideal isn't regular."""
+    return any([not regular for part, often, regular in parts_by(poly, p)])
+
+
+def answer_singular(line):
+    """Tells the prime numbers that have a part whose prime ideal isn't regular."""
+    found = [p for p in PRIMES if is_singular(line.poly, p)]
+    return [len(found)] + found
+
+
+def answer_prime(line, p, number):
+    """Keeps the prime ideal of p and the part of this number."""
+    if p not in PRIMES:
+        return [-1]
+    parts = parts_by(line.poly, p)
+    if number >= len(parts):
+        return [-3]
+    return kept(line, prime_ideal(p, parts[number][0], line.poly))
+
+
+def answer_ideal(line, places):
+    """Keeps the ideal made of one to three numbers."""
+    n = len(line.poly) - 1
+    if len(places) not in (n, 2 * n, 3 * n) or any([abs(c) > MOST_IN_PLACE for c in places]):
+        return [-1]
+    if not any(places):
+        return [-3]
+    numbers = [places[k:k + n] for k in range(0, len(places), n)]
+    return kept(line, ideal_made_of(numbers, line.poly))
+
+
+def answer_product(line, i, j):
+    """Keeps the product of two ideals."""
+    if max(i, j) >= len(line.ideals):
+        return [-2]
+    return kept(line, product_of(line.ideals[i], line.ideals[j], line.poly))
+
+
+def answer_of(line, call, handed):
+    """What a call answers, by its number and what is handed in with it."""
+    if call == RING:
+        return answer_ring(line, handed)
+    if call == SPLIT:
+        return answer_split(line, handed[0])
+    if call == SINGULAR:
+        return answer_singular(line)
+    if call == PRIME:
+        return answer_prime(line, handed[0], handed[1])
+    if call == IDEAL:
+        return answer_ideal(line, handed)
+    return answer_product(line, handed[0], handed[1])
+
+
+def call_at(calls, place):
+    """The number of the call that begins at the place, what is handed in with it, and the place behind it."""
+    call = calls[place]
+    begin = place + 1
+    if call in (RING, IDEAL):
+        begin = place + 2
+        end = begin + calls[place + 1]
+    else:
+        end = begin + ARGUMENTS[call]
+    return call, calls[begin:end], end
+
+
+def answers(calls):
+    """What the calls answer, one behind another: of each how many numbers, then these."""
+    line = Line()
+    answered = []
+    place = 0
+    while place < len(calls):
+        call, handed, place = call_at(calls, place)
+        answer = answer_of(line, call, handed)
+        answered.append(len(answer))
+        answered.extend(answer)
+    return answered
