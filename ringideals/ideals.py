@@ -76,3 +76,27 @@ def norm_of(rows):
     for i, row in enumerate(rows):
         norm *= row[i]
     return norm
+
+
+def has_number(rows, number):
+    """Whether the ideal with these rows has the number."""
+    rest = number
+    # From the last place on, as a row that is taken away leaves the places behind its own as they are.
+    for i in range(len(rows) - 1, -1, -1):
+        rest = less(rest, rows[i], rest[i] // rows[i][i])
+    return not any(rest)
+
+
+def has_all(rows, others):
+    """Whether the ideal with these rows has all numbers of the other one."""
+    return all([has_number(rows, other) for other in others])
+
+
+def how_often(prime_rows, rows, poly):
+    """How often a regular prime ideal divides an ideal: its greatest power that has all the ideal's numbers."""
+    often = 0
+    power = prime_rows
+    while has_all(power, rows):
+        often += 1
+        power = product_of(power, prime_rows, poly)
+    return often

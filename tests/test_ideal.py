@@ -1,35 +1,14 @@
 """ideal (numbers)"""
 
 import unittest
-from itertools import combinations, product as each_of
-from math import gcd
+from itertools import product as each_of
 
-from ringcalls import FAR, UNIT, asked, determinant, ideal, product, ring, times_t
+from ringcalls import FAR, UNIT, asked, classes, has, ideal, product, ring, spanned
 from ringideals.ideals import ideal_made_of, norm_of
 
 
 def made_rows(coefficients, numbers):
     return ideal_made_of([list(number) for number in numbers], list(coefficients) + [1])
-
-
-def spanned(coefficients, numbers):
-    """The numbers and all that they are times t, times t t, .."""
-    found = []
-    for number in numbers:
-        for _ in coefficients:
-            found.append(number)
-            number = times_t(number, coefficients)
-    return found
-
-
-def has(rows, number):
-    """Whether a number is a sum of the rows."""
-    left = list(number)
-    for i in range(len(rows) - 1, -1, -1):
-        if left[i] % rows[i][i]:
-            return False
-        left = [a - left[i] // rows[i][i] * b for a, b in zip(left, rows[i])]
-    return not any(left)
 
 
 class Kept(unittest.TestCase):
@@ -131,11 +110,7 @@ class Rows(unittest.TestCase):
             self.assertTrue(all(0 <= row[j] < rows[j][j] for j in range(i)))
         every = spanned(coefficients, numbers)
         self.assertTrue(all(has(rows, number) for number in every))
-        # Sums of the vectors, in sets of n, leave so many classes as their determinants have in common.
-        classes = 0
-        for some in combinations(every, n):
-            classes = gcd(classes, determinant([list(number) for number in some]))
-        self.assertEqual(norm_of(rows), classes)
+        self.assertEqual(norm_of(rows), classes(coefficients, numbers))
 
 
 if __name__ == "__main__":
